@@ -89,6 +89,9 @@ func TestParse(t *testing.T) { // P13.2, P13.3, P13.5
 	if e != api.OK || line != 0 || !reflect.DeepEqual(p, []api.Instr{{Op: api.OJump, A: 4}, {Op: api.OJump}, {Op: api.OJump}, {Op: api.OJump, A: 1}}) {
 		t.Error(p, line, e)
 	}
+	if l, e := asm.Labels(":azAZ09_\njump @azAZ09_\n"); e != api.OK || len(l) != 1 {
+		t.Error(l, e)
+	}
 	l, e := asm.Labels("# a remark\n:b\nhalt\n:a\n:c\n")
 	if e != api.OK || !reflect.DeepEqual(l, []string{"b", "a", "c"}) {
 		t.Error(l, e)
@@ -105,10 +108,10 @@ func TestWrongLines(t *testing.T) { // P13.2, P13.3
 		line int
 	}{
 		{"halt", 1}, {"halt\nhalt", 2}, {"# x", 1}, {"halt \n", 1}, {" halt\n", 1}, {"Halt\n", 1}, {"halt r1\n", 1}, {"halt\r\n", 1}, {"nop\n", 1}, {"\n\t\n", 2}, {"halt#\n", 1},
-		{":\n", 1}, {": a\n", 1}, {":a b\n", 1}, {":a-b\n", 1}, {":\xc3\xa9\n", 1}, {":" + strings.Repeat("x", 33) + "\n", 1}, {":a\n:b\n:a\n", 3},
+		{":\n", 1}, {": a\n", 1}, {":a b\n", 1}, {":a-b\n", 1}, {":\xc3\xa9\n", 1}, {":`\n", 1}, {":{\n", 1}, {":@\n", 1}, {":[\n", 1}, {":/\n", 1}, {"::\n", 1}, {":^\n", 1}, {":" + strings.Repeat("x", 33) + "\n", 1}, {":a\n:b\n:a\n", 3},
 		{"nil\n", 1}, {"nil r8\n", 1}, {"nil r-1\n", 1}, {"nil r01\n", 1}, {"nil r\n", 1}, {"nil 1\n", 1}, {"nil R1\n", 1}, {"nil  r1\n", 1}, {"nil r1 \n", 1}, {"nil r1 r2\n", 1},
 		{"const r1 01\n", 1}, {"const r1 -0\n", 1}, {"const r1 +1\n", 1}, {"const r1 \n", 1}, {"const r1 -\n", 1}, {"const r1 1_0\n", 1}, {"const r1 0x1\n", 1}, {"const r1 12345678901234\n", 1}, {"const r1 r2\n", 1}, {"const r1 @a\n:a\n", 1},
-		{"jump a\n:a\n", 1}, {"jump @\n", 1}, {"jump 0\n", 1}, {"jump @a-b\n", 1}, {"jump @" + strings.Repeat("x", 33) + "\n", 1}, {"jump @a b\n:a\n", 1},
+		{"jump a\n:a\n", 1}, {"jump @\n", 1}, {"jump 0\n", 1}, {"jump @a-b\n", 1}, {"jump @" + strings.Repeat("x", 33) + "\n", 1}, {"jump @a b\n:a\n", 1}, {"jump aa\n:a\n", 1}, {"jump xa\n:a\n", 1}, {"jump @a\nconst r1 12345678901234\n", 2}, {"jump @a\nconst r1 1234567890123\n", 1}, {"jump @a\nconst r1 -12345678901234\n", 2}, {"jump @a\nconst r1 -1234567890123\n", 1},
 		{halts + "halt\n", 513}, {halts + "#\n\n:a\nnil r1\n", 516},
 		// found behind those: in order
 		{"halt\njump @a\n", 2}, {"jump @a\nbad\n", 2}, {"jump @a\n:b\nhalt\n", 1}, {"const r1 9999999999999\n", 1}, {"const r1 -1099511627777\n", 1}, {"get r1 r2 16\n", 1}, {"set r1 -1 r2\n", 1}, {"new r1 0 0\n", 1}, {"new r1 2 4\n", 1}, {"#\nnew r1 17 0\njump @x\n", 2}, {"#\njump @x\nnew r1 17 0\n", 2}, {"get r1 r2 16\nhalt", 2},

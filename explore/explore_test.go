@@ -91,6 +91,14 @@ func TestRows(t *testing.T) { // P29.1, P29.3, the example
 			t.Error(c, n, e)
 		}
 	}
+	small := conf()
+	small.Words = 19 // one object alone has room: the first row is not the shortest one
+	if n, e := explore.Least(small, programs(t, "new r0 1 0; nil r1; nil r1", "new r0 1 0"), 9); n != 3 || e != api.OK {
+		t.Error(n, e)
+	}
+	if n, e := explore.Least(small, programs(t, "new r0 1 0", "new r0 1 0; nil r1; nil r1"), 9); n != 3 || e != api.OK {
+		t.Error(n, e)
+	}
 	retry := programs(t, "begin; retry; end", "halt") // a blocked thread may be picked
 	if rows, e := explore.Rows(conf(), retry, 6); e != api.OK || len(rows) != 7 || len(rows[0]) != 6 {
 		t.Error(len(rows), e)

@@ -30,6 +30,9 @@ func TestRounds(t *testing.T) { // P27.1, P27.4, the example
 	if l := fair.Rounds(2, 2); !slices.Equal(l, []int{0, 1, 0, 1}) {
 		t.Error(l)
 	}
+	if l := fair.Rounds(3, 1); !slices.Equal(l, []int{0, 1, 2}) {
+		t.Error(l)
+	}
 	if l := fair.Rounds(1, 3); !slices.Equal(l, []int{0, 0, 0}) {
 		t.Error(l)
 	}

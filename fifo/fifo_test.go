@@ -51,7 +51,7 @@ func join(t *testing.T, makers ...maker) []api.Instr {
 	for n, f := range makers {
 		for r := range 8 {
 			if n == 0 {
-				p = append(p, api.Instr{Op: api.ONil, A: r})
+				p = append(p, api.Instr{Op: api.OConst, A: r, B: 77})
 			}
 		}
 		l, e := f(len(p))

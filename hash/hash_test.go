@@ -114,6 +114,7 @@ func TestPairs(t *testing.T) { // P31.4
 	if l, ok := hash.Pairs([]api.Object{empty}); !ok || len(l) != 0 {
 		t.Error(l, ok)
 	}
+	lost := append([]api.Object{entry(50, nilv, num(9), num(5))}, row()...) // whoever is first is not meant
 	freed := entry(20, nilv, num(9), num(5))
 	freed.Head.State = api.Freed
 	number := row()
@@ -121,7 +122,7 @@ func TestPairs(t *testing.T) { // P31.4
 	zero := row()
 	zero[1].F[1] = api.Val{}
 	for i, l := range [][]api.Object{
-		nil, {entry(2, empty.F...)}, {entry(1, empty.F[:7]...)}, {{Ref: num(1<<20 + 1), F: empty.F}}, row(), number, zero, row(freed), row(entry(20, nilv, num(9))), row(entry(20, nilv, num(9), num(1), num(1))),
+		nil, {entry(2, empty.F...)}, {entry(1, empty.F[:7]...)}, {{Ref: num(1<<20 + 1), F: empty.F}}, row(), lost, number, zero, row(freed), row(entry(20, nilv, num(9))), row(entry(20, nilv, num(9), num(1), num(1))),
 		row(entry(20, num(0), num(9), num(5))), row(entry(20, nilv, nilv, num(5))), row(entry(20, nilv, num(9), nilv)), row(entry(20, api.Val{}, num(9), num(5))),
 		row(entry(20, nilv, num(8), num(5))), row(entry(20, ref(30), num(9), num(5)), entry(30, nilv, num(9), num(5))), row(entry(20, ref(30), num(9), num(5)), entry(30, nilv, num(10), num(5))), row(entry(20, ref(20), num(9), num(5))), row(entry(20, ref(99), num(9), num(5))),
 	} {

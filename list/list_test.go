@@ -23,11 +23,11 @@ var root, _ = value.Of(1, 1)
 
 var emit = api.Instr{Op: api.OEmit, A: 7}
 
-// wild has all registers something else than a number.
+// wild has all registers something else than at first.
 func wild() []api.Instr {
 	p := []api.Instr{{Op: api.ORoot, A: 7}}
 	for r := range 7 {
-		p = append(p, api.Instr{Op: api.ONil, A: r})
+		p = append(p, api.Instr{Op: api.OConst, A: r, B: 77})
 	}
 	return p
 }

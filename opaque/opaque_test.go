@@ -137,6 +137,7 @@ func TestPassed(t *testing.T) { // P23.3
 		want bool
 	}{
 		{api.Event{Kind: api.EBlock, Moment: 4, End: 5}, 10, true}, {api.Event{Kind: api.EBlock, Moment: 4, End: 6}, 10, true}, {api.Event{Kind: api.EBlock, Moment: 4, End: 7}, 0, false}, // no SFree behind its end
+		{api.Event{Kind: api.EBlock, Moment: 1, End: 1}, 10, true}, {api.Event{Kind: api.EBlock, Thread: 1, Moment: 3, End: 3}, 9, true},
 		{api.Event{Kind: api.EPlain, Moment: 4, End: 5}, 0, false}, {api.Event{Kind: api.EFail, Moment: 4, End: 5}, 0, false}, {api.Event{Moment: 4, End: 5}, 0, false},
 		{api.Event{Kind: api.EBlock, Moment: 0, End: 5}, 0, false}, {api.Event{Kind: api.EBlock, Moment: 14, End: 5}, 0, false}, {api.Event{Kind: api.EBlock, Moment: 4, End: 0}, 0, false}, {api.Event{Kind: api.EBlock, Moment: 4, End: 14}, 0, false}, {api.Event{Kind: api.EBlock, Moment: -5, End: 1 << 60}, 0, false},
 		{api.Event{Kind: api.EBlock, Thread: 1, Moment: 3, End: 3}, 9, true}, {api.Event{Kind: api.EBlock, Thread: 1, Moment: 9, End: 9}, 0, false}, // there is no next one
@@ -145,6 +146,11 @@ func TestPassed(t *testing.T) { // P23.3
 	} {
 		if n, ok := opaque.Passed(log, c.v); n != c.n || ok != c.want {
 			t.Error(c, n, ok)
+		}
+	}
+	for n := 8; n < 11; n++ { // the next one may be the last step
+		if from, ok := opaque.Passed(log[:n], api.Event{Kind: api.EBlock, Moment: 4, End: 5}); ok != (n == 10) || ok && from != 10 {
+			t.Error(n, from, ok)
 		}
 	}
 	if n, ok := opaque.Passed(nil, api.Event{Kind: api.EBlock}); n != 0 || ok {

@@ -202,6 +202,18 @@ func TestAThreadThatRuns(t *testing.T) { // P22.3: it runs in the model, ahead o
 	}
 }
 
+func TestTheRootIsReached(t *testing.T) { // P22.3: from the root on, also where no register has it
+	progs := programs(t, "root r0; const r1 5; set r0 8 r1; nil r0; halt")
+	w := run(t, conf(), progs, often(0, 11)...)
+	if n, e := order.Judge(progs, w.events, w.reports, w.objs); n != 1 || e != api.OK || w.reports[0].Status != api.Halted {
+		t.Error(n, e)
+	}
+	w.objs[0].F[8] = num(6)
+	if n, e := order.Judge(progs, w.events, w.reports, w.objs); n != -1 || e != api.ErrOrder {
+		t.Error(n, e)
+	}
+}
+
 // some is a program by chance, some with jumps back.
 func some(r *rand.Rand) string {
 	l := []string{"root r0", "root r1", "const r2 1", "const r6 2", "const r7 1"}

@@ -58,6 +58,24 @@ func TestPrint(t *testing.T) { // P28.1
 			t.Error(i, len(got), e)
 		}
 	}
+	full := api.Script{Conf: api.Conf{Manager: api.Greedy}} // as long as it may be, and a byte more
+	start, _ := play.Print(full)
+	left := api.MaxText - len(start)
+	for rows := left / len("pick 0 1\n"); rows > 0; rows-- {
+		full.Picks = append(full.Picks, rows%2)
+		for range 9 * min(1, max(0, left%9-rows+1)) {
+			full.Picks = append(full.Picks, rows%2) // ten of them take a byte more
+		}
+	}
+	if got, e := play.Print(full); len(got) != api.MaxText || e != api.OK {
+		t.Error(len(got), e)
+	}
+	for range 9 {
+		full.Picks = append([]int{full.Picks[0]}, full.Picks...)
+	}
+	if got, e := play.Print(full); got != "" || e != api.ErrLong {
+		t.Error(len(got), e)
+	}
 	for n := range 2 * 1 << 15 { // rows of one pick each
 		s.Picks = append(s.Picks, n%2)
 	}

@@ -26,11 +26,11 @@ var (
 	tell = []api.Instr{{Op: api.OGet, A: 6, B: 7, C: 1}, {Op: api.OEmit, A: 6}} // the value of an item
 )
 
-// wild has all registers but the last something else than a number.
+// wild has all registers but the last something else than at first.
 func wild() []api.Instr {
 	var p []api.Instr
 	for r := range 7 {
-		p = append(p, api.Instr{Op: api.ONil, A: r})
+		p = append(p, api.Instr{Op: api.OConst, A: r, B: 77})
 	}
 	return p
 }

@@ -152,6 +152,16 @@ func TestFind(t *testing.T) { // P30.2
 	}
 }
 
+func TestManyEvents(t *testing.T) { // P30.2, P30.5: as many as there may be
+	progs := programs(t, "root r0"+strings.Repeat("; get r1 r0 8", 64))
+	m := run(t, progs, make([]int, 300)...)
+	l := m.Events()
+	row, n, e := search.Find(progs, l, m.Reports(), m.Undone(), 64)
+	if len(l) != 64 || len(row) != 64 || !slices.IsSorted(row) || n != 64 || e != api.OK {
+		t.Error(len(l), row, n, e)
+	}
+}
+
 // some is a program by chance.
 func some(r *rand.Rand) string {
 	l := []string{"root r0", "const r2 " + string(rune('1'+r.Intn(9)))}

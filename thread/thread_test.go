@@ -300,6 +300,37 @@ func TestElse(t *testing.T) { // P19.2: example 8 of the whole
 	x.report(1, api.Halted, 0, 10, num(3))
 }
 
+func TestBackToAMark(t *testing.T) { // P19.2: what was done ahead of an inner block stays
+	w := made(t, conf(), "root r0; const r1 5; begin; set r0 8 r1; new r2 1 0; emit r1; begin; const r1 6; set r0 8 r1; set r0 9 r1; new r3 1 0; emit r1; retry; else; get r4 r0 8; emit r4; end; set r0 10 r1; end; emit r1")
+	r := w.run(0)
+	root := w.m.Heap().Objects()[0]
+	if r.Status != api.Halted || !value.Same(r.Emits, []api.Val{num(5), num(5), num(5)}) || root.F[8] != num(5) || root.F[9] != num(0) || root.F[10] != num(5) || len(w.m.Heap().Objects()) != 2 || r.Regs[3] != num(0) {
+		t.Error(r, root)
+	}
+	if v := w.events[0]; len(v.News) != 1 || v.News[0] != r.Regs[2] {
+		t.Error(v)
+	}
+}
+
+func TestUndone(t *testing.T) { // P19.4: of a block, and of a plain access
+	w := made(t, conf(), "root r0; set r0 8 r0; halt", "root r0; const r1 3; set r0 8 r1", "root r0; const r1 4; begin; set r0 9 r1; end")
+	w.steps(1, loc, loc, look, rec, lock, store)
+	w.steps(2, loc, loc, ep, clk, look)
+	f := w.m.Heap().Fork()
+	for i, x := range w.x {
+		x.Undone(f)
+		if v, _ := f.Load(f.Root(), 8); v != num([]int{3, 0, 0}[i]) {
+			t.Error(i, v)
+		}
+	}
+	w.steps(1, clk)
+	f = w.m.Heap().Fork()
+	w.x[1].Undone(f)
+	if v, _ := f.Load(f.Root(), 8); v != num(3) {
+		t.Error(v)
+	}
+}
+
 func TestRetry(t *testing.T) { // P19.2: example 7 of the whole
 	w := made(t, conf(), "root r0; begin; get r1 r0 8; jumpz r1 @wait; jump @go; :wait; emit r1; retry; :go; end; emit r1", "root r0; const r1 4; set r0 9 r1; set r0 8 r1")
 	w.quiet(0, loc, ep, clk, look, rec, load, rec, loc, loc)

@@ -77,8 +77,13 @@ func TestPrograms(t *testing.T) { // P25.1, P25.2, P25.3
 			t.Error("an answer is new memory")
 		}
 	}
-	if p, e := tree.Insert(0, api.MaxConst); e != api.OK || p[1].B != api.MaxConst {
-		t.Error(e)
+	for _, k := range []int{api.MaxConst, -api.MaxConst} {
+		if p, e := tree.Insert(0, k); e != api.OK || p[1].B != k {
+			t.Error(k, e)
+		}
+		if p, e := tree.Find(7, k); e != api.OK || p[1].B != k {
+			t.Error(k, e)
+		}
 	}
 }
 

@@ -124,7 +124,10 @@ func (w *world) store(t int, ref api.Val, field int, v api.Val) {
 func (w *world) create(t, fields, mask int) api.Val {
 	w.t.Helper()
 	w.ok(w.x[t].Make(fields, mask))
-	w.steps(t, txn.Done, api.SHeap)
+	s := w.steps(t, txn.Done, api.SHeap)
+	if s != (api.Step{Kind: api.SHeap, Thread: t, Ref: w.x[t].Result(), Began: w.x[t].Began()}) {
+		w.t.Error(s)
+	}
 	return w.x[t].Result()
 }
 
@@ -527,7 +530,7 @@ func TestFree(t *testing.T) { // P17.2
 	}
 	w.commit(1)
 	w.steps(0, txn.More, api.SEpoch)
-	if s := w.steps(0, txn.Done, api.SHeap); s.Ref != a {
+	if s := w.steps(0, txn.Done, api.SHeap); s != (api.Step{Kind: api.SHeap, Ref: a, Began: x.Began()}) {
 		t.Error(s)
 	}
 	w.begin(0)
@@ -865,6 +868,84 @@ func TestChecksMeet(t *testing.T) { // P17.2: a check asks as if the other one w
 	if w.finish(0) != txn.Done {
 		t.Error("commit")
 	}
+	w.quiet()
+}
+
+func TestWhichErrorFirst(t *testing.T) { // P17.2: of an own record the field's error, of another one the read set's
+	c := conf()
+	c.Reads, c.Orecs = 1, 64
+	w := made(t, c, 1)
+	a := w.object(api.Shared, 0)
+	w.begin(0)
+	w.load(0, w.root(), 0)
+	w.store(0, a, 1, num(1))
+	w.ok(w.x[0].Load(a, 7))
+	w.fails(0, api.ErrField, api.SLook, api.SOrec, api.SLoad)
+	w.begin(0)
+	w.load(0, w.root(), 0)
+	w.ok(w.x[0].Load(a, 7))
+	w.fails(0, api.ErrReads, api.SLook, api.SOrec, api.SLoad, api.SOrec)
+}
+
+func TestStamps(t *testing.T) { // P17.2: who parked, failed or committed takes a new stamp; who gave way keeps his
+	w := made(t, conf(), 1)
+	x := w.x[0]
+	for n, end := range []func() txn.Outcome{
+		func() txn.Outcome { w.ok(x.Park()); return w.finish(0) },
+		func() txn.Outcome { w.ok(x.Fail(api.ErrArg)); return w.finish(0) },
+		func() txn.Outcome { w.ok(x.Commit()); return w.finish(0) },
+		func() txn.Outcome { w.m.Doom(0); w.ok(x.Commit()); return w.finish(0) },
+		func() txn.Outcome { w.m.Doom(0); w.ok(x.Commit()); return w.finish(0) },
+	} {
+		w.begin(0)
+		if stamp := w.m.Stamp(0); stamp != min(n+1, 4) {
+			t.Error(n, stamp)
+		}
+		end()
+	}
+}
+
+func TestChecksUnderPolite(t *testing.T) { // P17.2: who finds another version gives way at once
+	c := conf()
+	c.Manager, c.Tries = api.Polite, 5
+	for _, take := range []bool{false, true} { // by another one's write, or by one ahead of its own
+		w := made(t, c, 2)
+		for range 5 {
+			w.m.Clock().Next()
+		}
+		a, b := w.object(api.Shared, 0), w.object(api.Shared, 0)
+		i := w.m.Orecs().Index(a)
+		w.begin(0)
+		w.load(0, a, 1)
+		w.m.Orecs().Take(i, 0, api.Orec{K: api.Anon, N: 1})
+		w.m.Orecs().Let(i, 1)
+		if take {
+			w.store(0, a, 1, num(7)) // its own now, but with another version than was read
+		}
+		w.store(0, b, 1, num(7))
+		w.ok(w.x[0].Commit())
+		w.steps(0, txn.More, api.SClock, api.SCheck)
+		if o := w.finish(0); o != txn.Gave {
+			t.Error(take, o)
+		}
+		w.quiet()
+	}
+}
+
+func TestCheckOfAnotherOnes(t *testing.T) { // P17.2: another thread's record is not one's own, whichever version was held
+	w := made(t, conf(), 2)
+	a, b := w.object(api.Shared, 0), w.object(api.Shared, 0)
+	w.begin(1)
+	w.begin(0)
+	w.load(0, a, 1)
+	w.store(0, b, 1, num(1))
+	w.store(1, a, 1, num(2))
+	w.ok(w.x[0].Commit())
+	w.steps(0, txn.More, api.SClock, api.SCheck) // the other one began first
+	if o := w.finish(0); o != txn.Gave || w.x[0].Certain() {
+		t.Error(o)
+	}
+	w.commit(1)
 	w.quiet()
 }
 

@@ -31,6 +31,7 @@ func TestPushPop(t *testing.T) { // P7.1, P7.4
 		}
 	}
 	log(t, api.MaxUndo)
+	log(t, 1)
 	l := log(t, 2)
 	if o, ok := l.Pop(); ok || o != (api.Old{}) {
 		t.Error(o, ok)
