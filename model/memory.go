@@ -128,6 +128,17 @@ func (y *memory) owns(ref api.Val, owner int) bool {
 	return e == api.OK && y.l[at].Head.State == api.Private && y.l[at].Head.Owner == owner
 }
 
+// private is the private objects: a closure has no others, and those that are gone may be many.
+func (y *memory) private() []api.Object {
+	var l []api.Object
+	for _, o := range y.l {
+		if o.Head.State == api.Private {
+			l = append(l, o)
+		}
+	}
+	return l
+}
+
 func (y *memory) store(ref api.Val, field int, v api.Val, owner int) api.Errno {
 	if _, e := y.load(ref, field); e != api.OK {
 		return e
@@ -139,7 +150,7 @@ func (y *memory) store(ref api.Val, field int, v api.Val, owner int) api.Errno {
 	}
 	y.put(at, field, v)
 	if !y.owns(ref, owner) && y.owns(v, owner) {
-		for _, x := range graph.Closure(y.l, v) {
+		for _, x := range graph.Closure(y.private(), v) {
 			y.turn(y.at[x], api.Shared)
 		}
 	}

@@ -205,6 +205,14 @@ func TestNewAndCalls(t *testing.T) { // P17.1
 	w.ok(x.Begin())
 }
 
+func TestOutcomes(t *testing.T) { // their numbers
+	for n, o := range []txn.Outcome{txn.None, txn.More, txn.Done, txn.Gave, txn.Rolled, txn.Parked, txn.Failed} {
+		if int(o) != n {
+			t.Error(n, o)
+		}
+	}
+}
+
 func TestNobodyMadeIt(t *testing.T) {
 	for _, x := range []*txn.Txn{nil, {}} {
 		for i, e := range []api.Errno{x.Begin(), x.Load(num(0), 0), x.Store(num(0), 0, num(0)), x.Free(num(0)), x.Make(0, 0), x.Back(txn.Mark{}), x.Park(), x.Fail(api.OK), x.Commit()} {
