@@ -173,8 +173,9 @@ func TestDrive(t *testing.T) { // P27.3
 	if n := fair.Drive(m, 1, 50); n != 50 || m.Over() {
 		t.Error("only these threads", n)
 	}
-	if n := fair.Drive(made(":a; jump @a"), 3, math.MaxInt); n != api.MaxSteps {
-		t.Error("it ends", n)
+	m = made(":a; jump @a")
+	if fair.Drive(m, 1, math.MaxInt); m.Steps() != api.MaxSteps {
+		t.Error("it ends", m.Steps())
 	}
 }
 

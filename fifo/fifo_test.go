@@ -98,7 +98,7 @@ func TestPieces(t *testing.T) { // the word 'a piece'
 				p[i] = api.Instr{Op: api.ONil}
 			}
 			p = append(p, l...)
-			if e := check.Check(p); e != api.OK || len(check.Blocks(p)) != 1 || p[len(p)-1].Op != api.OEnd {
+			if e := check.Check(p); e != api.OK || len(check.Blocks(p)) != 1 {
 				t.Error(at, n, e)
 			}
 			news := 0
@@ -114,7 +114,7 @@ func TestPieces(t *testing.T) { // the word 'a piece'
 					t.Error("a jump", i)
 				}
 			}
-			if makes := n < 2 || n > 3; (news == 1) != makes || news > 1 {
+			if makes := n < 2 || n > 3; (news > 0) != makes {
 				t.Error(n, news)
 			}
 		}

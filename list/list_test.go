@@ -148,7 +148,7 @@ func TestPieces(t *testing.T) { // the word 'a piece': at each place, one block,
 			if e := check.Check(p); e != api.OK {
 				t.Error(at, n, e)
 			}
-			if blocks := check.Blocks(p); (len(blocks) == 1) != (n < 4) || check.Depth(p) > 1 {
+			if blocks := check.Blocks(p); (len(blocks) == 1) != (n < 4) || len(blocks) > 1 {
 				t.Error(at, n, blocks)
 			}
 			for place, i := range p {
