@@ -166,16 +166,70 @@ func TestDrive(t *testing.T) { // P27.3
 			t.Error(threads, n)
 		}
 	}
-	if fair.Drive(nil, 1, 5) != 0 || fair.Drive(&machine.Machine{}, 1, math.MaxInt) != 0 || fair.Drive(made("halt"), 1, 0) != 0 || fair.Drive(made("halt"), 1, -3) != 0 {
+	if fair.Drive(nil, 1, 5) != 0 || fair.Drive(made("halt"), 1, 0) != 0 || fair.Drive(made("halt"), 1, -3) != 0 {
 		t.Error("no picks")
 	}
 	m = made("halt", "halt")
 	if n := fair.Drive(m, 1, 50); n != 50 || m.Over() {
 		t.Error("only these threads", n)
 	}
-	m = made(":a; jump @a")
-	if fair.Drive(m, 1, math.MaxInt); m.Steps() != api.MaxSteps {
-		t.Error("it ends", m.Steps())
+}
+
+// Each pick counts, also one that does no step.
+func TestDriveCountsPicks(t *testing.T) { // P27.3
+	made := func(n int, s string) *machine.Machine {
+		var progs [][]api.Instr
+		for range n {
+			progs = append(progs, program(t, s))
+		}
+		m, e := machine.New(conf(), progs)
+		if e != api.OK {
+			t.Fatal(e)
+		}
+		return m
+	}
+	const steps = "nil r0; nil r0; nil r0; halt"
+	for _, c := range []struct{ has, threads, most, picks, steps int }{
+		{1, 2, 1, 1, 1}, {1, 2, 2, 2, 1}, {1, 2, 3, 3, 2}, {1, 3, 7, 7, 3}, {2, 5, 9, 9, 4},
+		{1, 2, 7, 7, 4}, {1, 2, 8, 7, 4}, {1, 2, math.MaxInt, 7, 4}, // it is over behind the seventh one
+		{1, 64, math.MaxInt, 3*64 + 1, 4}, {2, 3, math.MaxInt, 11, 8}, {2, 2, math.MaxInt, 8, 8},
+	} {
+		m := made(c.has, steps)
+		if n := fair.Drive(m, c.threads, c.most); n != c.picks || m.Steps() != c.steps {
+			t.Error(c, n, m.Steps())
+		}
+		for i, s := range m.Log() {
+			if s.Thread != i%c.has {
+				t.Error(c, i, s)
+			}
+		}
+	}
+	// Picks that can do no step any more are picks all the same, however many.
+	for _, most := range []int{5, api.MaxSteps + 9, math.MaxInt} {
+		m := made(1, ":a; jump @a")
+		if n := fair.Drive(m, 1, most); n != most || m.Steps() != min(most, api.MaxSteps) {
+			t.Error(most, n, m.Steps())
+		}
+	}
+	m := made(1, ":a; jump @a")
+	if n := fair.Drive(m, 3, 3*api.MaxSteps+1); n != 3*api.MaxSteps+1 || m.Steps() != api.MaxSteps {
+		t.Error(n, m.Steps())
+	}
+	for _, most := range []int{1, 3, 7, math.MaxInt} {
+		if n := fair.Drive(m, 2, most); n != most || m.Steps() != api.MaxSteps {
+			t.Error(most, n)
+		}
+		if n := fair.Drive(&machine.Machine{}, 2, most); n != most { // it is never over
+			t.Error(most, n)
+		}
+	}
+	for _, most := range []int{0, -1, math.MinInt} {
+		if n := fair.Drive(m, 2, most); n != 0 {
+			t.Error(most, n)
+		}
+		if n := fair.Drive(&machine.Machine{}, 2, most); n != 0 {
+			t.Error(most, n)
+		}
 	}
 }
 
